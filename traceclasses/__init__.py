@@ -1,0 +1,1 @@
+"""Words and runs in which some neighbours may change places."""
