@@ -2,11 +2,9 @@
 
 import unittest
 
+from by_search import ALL_PAIRS, EXAMPLE
 from traceclasses.alphabets import check, free, independent, taken_out
 from traceclasses.errors import AlphabetFault, ExchangeFault, TraceFault
-
-EXAMPLE = ("alphabet", "abcd", ("ac", "bd"))
-ALL_PAIRS = tuple(x + y for x in "abcdef" for y in "abcdef" if x < y)
 
 
 class Check(unittest.TestCase):

@@ -5,32 +5,9 @@ import random
 import time
 import unittest
 
+from by_search import ALL_FREE, EXAMPLE, MIXED, alphabets, neighbours, reached, words_up_to
 from traceclasses.errors import AlphabetFault, ExchangeFault, TraceFault
 from traceclasses.exchanges import distance, exchanged, exchanges, parts
-
-EXAMPLE = ("alphabet", "abcd", ("ac", "bd"))
-ALL_PAIRS = tuple(x + y for x in "abcdef" for y in "abcdef" if x < y)
-ALL_FREE = ("alphabet", "abcdef", ALL_PAIRS)
-
-
-def neighbours(alphabet, word):
-    """(place, word) for each exchange, straight from the pairs."""
-    for k in range(len(word) - 1):
-        x, y = word[k], word[k + 1]
-        if x + y in alphabet[2] or y + x in alphabet[2]:
-            yield k, word[:k] + y + x + word[k + 2:]
-
-
-def reached(alphabet, word):
-    """All words alike one, each with its fewest exchanges, breadth first."""
-    far = {word: 0}
-    queue = [word]
-    for now in queue:
-        for _, other in neighbours(alphabet, now):
-            if other not in far:
-                far[other] = far[now] + 1
-                queue.append(other)
-    return far
 
 
 def crossed(word, other):
@@ -39,13 +16,6 @@ def crossed(word, other):
         return [(x, text[:k].count(x)) for k, x in enumerate(text)]
     behind = {x: k for k, x in enumerate(numbered(other))}
     return sum(behind[x] > behind[y] for x, y in itertools.combinations(numbered(word), 2))
-
-
-def alphabets(letters):
-    pairs = [x + y for x in letters for y in letters if x < y]
-    for many in range(len(pairs) + 1):
-        for chosen in itertools.combinations(pairs, many):
-            yield ("alphabet", letters, chosen)
 
 
 class ByHand(unittest.TestCase):
@@ -128,7 +98,7 @@ class AllShortWords(unittest.TestCase):
         self.assertEqual(exchanged(alphabet, word, places), other)
 
     def test_against_breadth_first_search(self):
-        words = ["".join(w) for n in range(5) for w in itertools.product("abc", repeat=n)]
+        words = words_up_to("abc", 4)
         for alphabet in alphabets("abc"):
             for word in words:
                 far = reached(alphabet, word)
@@ -137,11 +107,10 @@ class AllShortWords(unittest.TestCase):
                         self.compare(alphabet, word, far, other)
 
     def test_the_letters_of_six_in_all_orders(self):
-        alphabet = ("alphabet", "abcdef", ("ac", "ad", "af", "bd", "be", "cf", "de"))
         for word in ("abcdef", "fbdaec"):
-            far = reached(alphabet, word)
+            far = reached(MIXED, word)
             for other in itertools.permutations("abcdef"):
-                self.compare(alphabet, word, far, "".join(other))
+                self.compare(MIXED, word, far, "".join(other))
 
     def test_each_word_that_exchanges_reach_from_a_longer_one(self):
         for word in ("abcdabcdabcd", "aaccbbddacbd", "cacabdbdca"):

@@ -1,11 +1,20 @@
 """What the document and the language rules say of the package's files themselves."""
 
 import ast
+import builtins
+import doctest
 import pathlib
 import unittest
 
 ROOT = pathlib.Path(__file__).resolve().parent.parent
 PACKAGE = ROOT / "traceclasses"
+# What the language rules let the package call or name of Python's own.
+BUILTINS = """
+    len range enumerate zip min max sum abs sorted reversed int str bool bytes list tuple dict set isinstance ord
+    repr any all divmod pow Exception ValueError TypeError KeyError IndexError LookupError super
+""".split()
+# A doctest that has run leaves a name _ there.
+OF_PYTHON = set(dir(builtins)) - {"_"}
 LIBRARY = ("heapq", "math", "itertools", "collections", "__future__")
 
 # File, then each function or class of the interface with its parameters.
@@ -23,6 +32,28 @@ INTERFACE = {
         "exchanged": ["alphabet", "word", "places"],
         "distance": ["alphabet", "word", "other"],
     },
+    "graphs.py": {
+        "graph": ["alphabet", "word"],
+        "firsts": ["alphabet", "word"],
+        "lasts": ["alphabet", "word"],
+        "height": ["alphabet", "word"],
+        "width": ["alphabet", "word"],
+    },
+    "forms.py": {
+        "least": ["alphabet", "word"],
+        "greatest": ["alphabet", "word"],
+        "steps": ["alphabet", "word"],
+        "words_of": ["alphabet", "word"],
+    },
+    "counting.py": {
+        "cliques": ["alphabet"],
+        "count_words": ["alphabet", "word"],
+        "count_prefixes": ["alphabet", "word"],
+        "count_traces": ["alphabet", "n"],
+        "traces": ["alphabet", "n"],
+        "nth": ["alphabet", "n", "place"],
+        "place_of": ["alphabet", "word"],
+    },
 }
 
 
@@ -32,6 +63,24 @@ def files():
 
 def tree(path):
     return ast.parse(path.read_text("utf-8"))
+
+
+def imported(path):
+    """The files of the package from which a file imports, with the names."""
+    found = {}
+    for node in ast.walk(tree(path)):
+        if isinstance(node, ast.ImportFrom) and node.module.startswith("traceclasses."):
+            found[node.module.split(".")[1] + ".py"] = [alias.name for alias in node.names]
+    return found
+
+
+def bound_in_functions(path):
+    """All parameters and variables of a file's functions, those of comprehensions too."""
+    for node in ast.walk(tree(path)):
+        if isinstance(node, ast.arg):
+            yield node.arg
+        elif isinstance(node, ast.Name) and isinstance(node.ctx, ast.Store):
+            yield node.id
 
 
 class Interface(unittest.TestCase):
@@ -46,6 +95,17 @@ class Interface(unittest.TestCase):
             for known, parameters in wanted.items():
                 self.assertIn(known, found, name)
                 self.assertEqual(found[known], parameters, known)
+
+
+class Readme(unittest.TestCase):
+    def test_its_examples(self):
+        text = (ROOT / "README.md").read_text("utf-8")
+        examples = [block for block in text.split("```") if block.lstrip().startswith(">>>")]
+        self.assertTrue(examples)
+        case = doctest.DocTestParser().get_doctest("\n".join(examples), {}, "README.md", "README.md", 0)
+        told = []
+        doctest.DocTestRunner(verbose=False).run(case, out=told.append)
+        self.assertEqual("".join(told), "")
 
 
 class Language(unittest.TestCase):
@@ -73,6 +133,30 @@ class Language(unittest.TestCase):
                     self.assertEqual(node.level, 0, path)
                     self.assertTrue(node.module.startswith("traceclasses.") or node.module in LIBRARY, path)
                     self.assertNotIn("*", [alias.name for alias in node.names])
+
+    def test_imports_name_the_file_that_defines_the_name(self):
+        for path in files():
+            for name, wanted in imported(path).items():
+                found = [getattr(node, "name", None) for node in tree(PACKAGE / name).body]
+                self.assertLessEqual(set(wanted), set(found), path)
+
+    def test_no_two_files_import_from_each_other(self):
+        left = {path.name: set(imported(path)) for path in files()}
+        while left:
+            free = [name for name in left if not left[name] & set(left)]
+            self.assertTrue(free, left)
+            for name in free:
+                del left[name]
+
+    def test_no_variable_has_the_name_of_a_builtin_or_of_an_import(self):
+        for path in files():
+            taken = OF_PYTHON.union(*imported(path).values())
+            self.assertEqual(sorted(set(bound_in_functions(path)) & taken), [], path)
+
+    def test_only_some_builtins_are_used(self):
+        for path in files():
+            used = {node.id for node in ast.walk(tree(path)) if isinstance(node, ast.Name)}
+            self.assertEqual(sorted(used & OF_PYTHON - set(BUILTINS)), [], path)
 
     def test_a_module_level_contains_no_code_that_runs(self):
         allowed = (ast.ImportFrom, ast.FunctionDef, ast.ClassDef, ast.Assign, ast.AnnAssign)
