@@ -5,21 +5,20 @@ from traceclasses.graphs import first_off, firsts, height, levels, ways_off
 
 def least(alphabet, word):
     """The least word of the trace."""
-    found = ""
-    left = word
-    while left:
-        letter = firsts(alphabet, left)[0]
-        found += letter
-        left = first_off(left, letter)
-    return found
+    return taken_in_turn(alphabet, word, 0)
 
 
 def greatest(alphabet, word):
     """The greatest word of the trace."""
+    return taken_in_turn(alphabet, word, -1)
+
+
+def taken_in_turn(alphabet, word, which):
+    """The alike word whose letters are, one by one, this one of those that can come next."""
     found = ""
     left = word
     while left:
-        letter = firsts(alphabet, left)[-1]
+        letter = firsts(alphabet, left)[which]
         found += letter
         left = first_off(left, letter)
     return found
