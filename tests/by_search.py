@@ -67,16 +67,21 @@ def reached(alphabet, word):
     return far
 
 
+LEAST = {}
+
+
+def told(alphabet, word):
+    """The least word of the trace; kept for all words that are alike it."""
+    known = LEAST.setdefault(alphabet, {})
+    if word not in known:
+        alike = reached(alphabet, word)
+        known.update(dict.fromkeys(alike, min(alike)))
+    return known[word]
+
+
 def one_of_each(alphabet, row):
     """The least words of the traces of some words, each once, in the order of texts."""
-    found = []
-    seen = set()
-    for word in row:
-        if word not in seen:
-            alike = reached(alphabet, word)
-            found.append(min(alike))
-            seen.update(alike)
-    return sorted(found)
+    return sorted({told(alphabet, word) for word in row})
 
 
 def least_words(alphabet, n):
@@ -102,3 +107,22 @@ def all_prefixes(alphabet, word):
     """The least words of all prefixes, shorter ones first, by the beginnings of all alike words."""
     beginnings = {other[:k] for other in reached(alphabet, word) for k in range(len(word) + 1)}
     return sorted(one_of_each(alphabet, beginnings), key=len)
+
+
+def turnings(alphabet, word):
+    """(length of u, u, the trace v u) for all products u v of the trace, all as least words; sorted."""
+    splits = {(other[:k], other[k:]) for other in reached(alphabet, word) for k in range(len(word) + 1)}
+    return sorted({(len(u), told(alphabet, u), told(alphabet, v + u)) for u, v in splits})
+
+
+def turned_from(alphabet, word):
+    """For all traces that turning again and again leads to: how many times at least."""
+    start = told(alphabet, word)
+    far = {start: 0}
+    queue = [start]
+    for now in queue:
+        for _, _, other in turnings(alphabet, now):
+            if other not in far:
+                far[other] = far[now] + 1
+                queue.append(other)
+    return far

@@ -54,6 +54,28 @@ INTERFACE = {
         "nth": ["alphabet", "n", "place"],
         "place_of": ["alphabet", "word"],
     },
+    "prefixes.py": {
+        "is_prefix": ["alphabet", "word", "other"],
+        "rest": ["alphabet", "word", "other"],
+        "prefixes": ["alphabet", "word"],
+        "meet": ["alphabet", "word", "other"],
+        "join": ["alphabet", "word", "other"],
+    },
+    "levi.py": {
+        "levi": ["alphabet", "x", "y", "z", "t"],
+        "is_levi": ["alphabet", "x", "y", "z", "t", "pieces"],
+    },
+    "roots.py": {
+        "components": ["alphabet", "word"],
+        "root": ["alphabet", "word"],
+        "power": ["alphabet", "word", "n"],
+    },
+    "conjugates.py": {
+        "commute": ["alphabet", "word", "other"],
+        "transposed": ["alphabet", "word", "other"],
+        "conjugates": ["alphabet", "word"],
+        "way": ["alphabet", "word", "other"],
+    },
 }
 
 
@@ -139,6 +161,12 @@ class Language(unittest.TestCase):
             for name, wanted in imported(path).items():
                 found = [getattr(node, "name", None) for node in tree(PACKAGE / name).body]
                 self.assertLessEqual(set(wanted), set(found), path)
+
+    def test_all_that_is_imported_is_used(self):
+        for path in files():
+            used = {node.id for node in ast.walk(tree(path)) if isinstance(node, ast.Name)}
+            for wanted in imported(path).values():
+                self.assertLessEqual(set(wanted), used, path)
 
     def test_no_two_files_import_from_each_other(self):
         left = {path.name: set(imported(path)) for path in files()}
