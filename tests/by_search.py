@@ -43,6 +43,12 @@ def some_words(alphabet, n, many):
     return ["".join(chance.choice(alphabet[1]) for _ in range(n)) for _ in range(many)]
 
 
+def shuffled(word, many):
+    """So many words of the same letters, by chance but the same each time."""
+    chance = random.Random(word)
+    return ["".join(chance.sample(word, len(word))) for _ in range(many)]
+
+
 def are_free(alphabet, x, y):
     return x + y in alphabet[2] or y + x in alphabet[2]
 

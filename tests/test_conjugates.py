@@ -6,15 +6,31 @@ import unittest
 
 from by_search import (
     ALL_FREE, EXAMPLE, LOTS, MIXED, NO_PAIRS, ONE_LETTER, ROW, SEVERAL, STAR,
-    alphabets, are_free, least_words, reached, some_words, told, turned_from, turnings, words_up_to,
+    alphabets, are_free, least_words, reached, shuffled, some_words,
+    told, turned_from, turnings, words_up_to,
 )
 from traceclasses.conjugates import commute, conjugates, transposed, way
 from traceclasses.exchanges import parts
 from traceclasses.forms import least
+from traceclasses.prefixes import prefixes, rest
 from traceclasses.roots import components, power, root
 
-# Words that stand far from one another: behind one turn each other letter can be a turn behind.
+# Words of the same letters that stand far from one another, or are not conjugate.
 FAR = (("aabbccddeeff", "ffeeddccbbaa"), ("abcdefabcdef", "ffeeddccbbaa"), ("aaabbbcccdddef", "feabcdabcdabcd"))
+
+
+def turned_by_prefixes(alphabet, word):
+    """As turned_from, but for long words: by the package's prefixes and rests."""
+    start = least(alphabet, word)
+    far = {start: 0}
+    queue = [start]
+    for now in queue:
+        for prefix in prefixes(alphabet, now):
+            other = least(alphabet, rest(alphabet, prefix, now) + prefix)
+            if other not in far:
+                far[other] = far[now] + 1
+                queue.append(other)
+    return far
 
 
 class Commute(unittest.TestCase):
@@ -255,17 +271,22 @@ class Way(unittest.TestCase):
                 if "".join(other[1:4]) == "ecd":
                     self.check(ring, word, "".join(other), far)
 
-    def test_long_ways(self):
-        for alphabet in (ROW, STAR, MIXED, EXAMPLE):
-            for word, other in FAR:
-                if set(word) <= set(alphabet[1]):
-                    answer = way(alphabet, word, other)
-                    if answer is not None:
-                        self.assertEqual((answer[0], answer[-1]), (least(alphabet, word), least(alphabet, other)))
-                        for one, two in itertools.pairwise(answer):
-                            u, v = transposed(alphabet, one, two)
-                            self.assertIsNone(parts(alphabet, u + v, one))
-                            self.assertIsNone(parts(alphabet, v + u, two))
+    def test_ways_of_fourteen_letters(self):
+        for alphabet, word in (
+            (ROW, "abcccccccccdef"), (ROW, "abcdefabcdefab"), (STAR, "aaaaaaaaabcdef"),
+            (MIXED, "abcdefabcdefab"), (EXAMPLE, "abcdabcdabcdab"), (EXAMPLE, "aabbccddabcdac"),
+        ):
+            far = turned_by_prefixes(alphabet, word)
+            for other, many in far.items():
+                answer = way(alphabet, word, other)
+                self.assertEqual((answer[0], answer[-1]), (least(alphabet, word), other))
+                self.assertEqual(len(answer) - 1, many, (alphabet, word, other))
+                for one, two in itertools.pairwise(answer):
+                    u, v = transposed(alphabet, one, two)
+                    self.assertIsNone(parts(alphabet, u + v, one))
+                    self.assertIsNone(parts(alphabet, v + u, two))
+            for other in shuffled(word, 20):
+                self.assertEqual(way(alphabet, word, other) is None, least(alphabet, other) not in far)
         self.assertEqual(len(way(ROW, "aabbccddeeff", "ffeeddccbbaa")), 6)
 
 
