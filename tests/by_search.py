@@ -2,6 +2,7 @@
 
 import itertools
 import random
+import time
 
 ALL_PAIRS = tuple(x + y for x in "abcdef" for y in "abcdef" if x < y)
 
@@ -132,3 +133,11 @@ def turned_from(alphabet, word):
                 far[other] = far[now] + 1
                 queue.append(other)
     return far
+
+
+def quick(case, reckon, *more):
+    """What a function answers; the test fails if that takes a noticeable time."""
+    began = time.perf_counter()
+    found = reckon(*more)
+    case.assertLess(time.perf_counter() - began, 1, (reckon, more))
+    return found

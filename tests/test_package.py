@@ -76,6 +76,21 @@ INTERFACE = {
         "conjugates": ["alphabet", "word"],
         "way": ["alphabet", "word", "other"],
     },
+    "automata.py": {
+        "takes": ["automaton", "word"],
+        "minimal": ["alphabet", "automaton"],
+        "equal": ["alphabet", "automaton", "other"],
+    },
+    "closed.py": {
+        "is_closed": ["alphabet", "automaton"],
+        "count_taken": ["alphabet", "automaton", "n"],
+        "first_taken": ["alphabet", "automaton"],
+    },
+    "programs.py": {
+        "values_behind": ["program", "schedule"],
+        "possible": ["program", "schedule"],
+        "touched": ["step"],
+    },
 }
 
 
