@@ -73,3 +73,53 @@ def all_runs(program):
     for run in queue:
         queue.extend([run + (thread,) for thread in next_threads(program, run)])
     return queue
+
+
+def whole_runs(program):
+    """All whole runs, shorter ones first, then rising."""
+    return [run for run in all_runs(program) if not next_threads(program, run)]
+
+
+def steps_of(program, run):
+    """For each step of a run (thread, which one of it, the step)."""
+    counts = [run[:k].count(thread) for k, thread in enumerate(run)]
+    return [(thread, count, program[2][thread][count]) for thread, count in zip(run, counts)]
+
+
+def are_dependent(one, other):
+    """Whether two steps, as steps_of tells them, are dependent; straight from the kinds."""
+    (thread, _, (kind, *names)), (beside, _, (other_kind, *other_names)) = one, other
+    touched = {name for name in names if isinstance(name, str)}
+    by_other = {name for name in other_names if isinstance(name, str)}
+    changed = {names[0]} if kind in ("add", "copy") else set()
+    changed_by_other = {other_names[0]} if other_kind in ("add", "copy") else set()
+    return thread == beside or bool(touched & by_other & (changed | changed_by_other))
+
+
+def alike_runs(program, run):
+    """All runs that are alike one, rising, by exchanges of neighbouring steps that are not dependent."""
+    found = {run}
+    queue = [run]
+    for now in queue:
+        steps = steps_of(program, now)
+        for k in range(len(now) - 1):
+            other = now[:k] + (now[k + 1], now[k]) + now[k + 2:]
+            if not are_dependent(steps[k], steps[k + 1]) and other not in found:
+                found.add(other)
+                queue.append(other)
+    return sorted(found)
+
+
+def beginnings(alike):
+    """All beginnings of some runs, shorter ones first, then rising."""
+    return sorted({run[:k] for run in alike for k in range(len(run) + 1)}, key=lambda run: (len(run), run))
+
+
+def counted(program, run):
+    """How many steps of each thread there are in a run."""
+    return tuple(run.count(thread) for thread in range(len(program[2])))
+
+
+def holds(program, run, condition):
+    """Whether a condition holds behind a run."""
+    return after(program, run)[0][condition[0]] >= condition[1]

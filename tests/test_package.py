@@ -91,6 +91,36 @@ INTERFACE = {
         "possible": ["program", "schedule"],
         "touched": ["step"],
     },
+    "runs.py": {
+        "same_runs": ["program", "schedule", "other"],
+        "first_run": ["program", "schedule"],
+        "runs": ["program"],
+        "ends": ["program"],
+        "stuck": ["program"],
+    },
+    "watching.py": {
+        "before": ["program", "schedule"],
+        "clocks": ["program", "schedule"],
+        "races": ["program", "schedule"],
+        "cuts": ["program", "schedule"],
+        "some": ["program", "schedule", "condition"],
+        "every": ["program", "schedule", "condition"],
+    },
+    "making.py": {
+        "both": ["alphabet", "one", "other"],
+        "either": ["alphabet", "one", "other"],
+        "without": ["alphabet", "one", "other"],
+        "product": ["alphabet", "one", "other"],
+        "of_words": ["alphabet", "words"],
+        "behind": ["alphabet", "automaton", "word"],
+    },
+    "growth.py": {
+        "polynomial": ["alphabet"],
+        "factors": ["alphabet"],
+        "multiplied": ["first", "second"],
+        "count_modulo": ["alphabet", "n", "m"],
+        "count_between": ["alphabet", "word", "n"],
+    },
 }
 
 

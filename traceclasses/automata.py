@@ -5,11 +5,16 @@ from traceclasses.building import built
 
 def takes(automaton, word):
     """Whether edges lead by the word's letters from the start to one of the ends."""
+    return state_behind(automaton, word) in automaton[3]
+
+
+def state_behind(automaton, word):
+    """The state to which edges lead by the word's letters from the start, or None."""
     table = edge_table(automaton)
     state = automaton[2]
     for letter in word:
         state = table.get((state, letter))
-    return state in automaton[3]
+    return state
 
 
 def minimal(alphabet, automaton):

@@ -16,13 +16,20 @@ def direct(rows, row):
 
 def all_before(alphabet, word):
     """For each place all places that stand before it, as the keys of a dict."""
+    return carried_on([[other for other in range(place) if not independent(alphabet, word[other], letter)]
+                       for place, letter in enumerate(word)])
+
+
+def carried_on(near):
+    """For each place all places before it, as the keys of a dict, by lists of some of them:
+    those that stand before it by themselves.
+    """
     rows = []
-    for place, letter in enumerate(word):
+    for places in near:
         row = {}
-        for other in range(place):
-            if not independent(alphabet, word[other], letter):
-                row[other] = True
-                row.update(rows[other])
+        for other in places:
+            row[other] = True
+            row.update(rows[other])
         rows.append(row)
     return rows
 

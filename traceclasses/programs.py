@@ -36,12 +36,15 @@ def point_behind(program, schedule):
     return point
 
 
+def next_steps(program, point):
+    """A dict: by the threads that have a step left at a point their next step; rising."""
+    made = point[0]
+    return {thread: steps[made[thread]] for thread, steps in enumerate(program[2]) if made[thread] < len(steps)}
+
+
 def ready(program, point):
     """The rising tuple of the threads whose next step is possible at a point."""
-    made, values = point
-    threads = program[2]
-    return tuple([thread for thread, at in enumerate(made)
-                  if at < len(threads[thread]) and is_possible(values, threads[thread][at])])
+    return tuple([thread for thread, step in next_steps(program, point).items() if is_possible(point[1], step)])
 
 
 def is_possible(values, step):

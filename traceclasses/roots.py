@@ -12,14 +12,14 @@ def components(alphabet, word):
 
 
 def lots(alphabet, word):
-    """The letters of a word in texts, as many as can be, such that letters of unlike texts
-    are independent.
+    """The letters of a word in rising texts, as many as can be, such that letters of unlike
+    texts are independent.
     """
     found = []
     for letter in taken_out(alphabet[1], word):
         joined = [lot for lot in found if not free(alphabet, lot, letter)]
         others = [lot for lot in found if free(alphabet, lot, letter)]
-        found = others + ["".join(joined) + letter]
+        found = others + ["".join(sorted("".join(joined) + letter))]
     return found
 
 
